@@ -1,0 +1,1 @@
+"""An open pit: which blocks of ground are worth digging at a price of the metal."""
