@@ -16,11 +16,21 @@ WRONG_NUMBER = -4
 NO_MODEL = -8
 
 
-def told(number, numbers=(), text=()):
-    """An answer as a list of numbers, from its number, its list and its text."""
-    if len(numbers) == 0 and len(text) == 0:
-        return [number]
-    return [number, len(numbers)] + list(numbers) + [len(text)] + list(text)
+def told(number):
+    """An answer of a number alone, as a list of numbers."""
+    return [number]
+
+
+def told_list(number, numbers):
+    """An answer of a number and a list, as a list of numbers."""
+    if len(numbers) == 0:
+        return told(number)
+    return [number, len(numbers)] + numbers + [0]
+
+
+def told_text(number, text):
+    """An answer of a number and a text that isn't empty, as a list of numbers."""
+    return [number, 0, len(text)] + text
 
 
 def told_worth(mine, worth):
@@ -37,16 +47,16 @@ def answer_read(mine, numbers, row):
     try:
         model = read_model(row)
     except FormFault as fault:
-        return told(WRONG_FORM, [fault.place])
+        return told_list(WRONG_FORM, [fault.place])
     except NumberFault as fault:
-        return told(WRONG_NUMBER, [fault.place])
+        return told_list(WRONG_NUMBER, [fault.place])
     mine.begin(model)
     return told(0)
 
 
 def answer_write(mine, numbers, row):
     # A model has one text only, so the one that was read is the one to write.
-    return told(len(mine.model.text), [], mine.model.text)
+    return told_text(len(mine.model.text), mine.model.text)
 
 
 def answer_block(mine, numbers, row):
@@ -54,7 +64,7 @@ def answer_block(mine, numbers, row):
     if block is None:
         return told(WRONG_ARGUMENT)
     gone = 1 if holds(mine.gone, block) else 0
-    return told(0, [block, mine.model.tonnes[block], mine.model.metal[block], gone])
+    return told_list(0, [block, mine.model.tonnes[block], mine.model.metal[block], gone])
 
 
 def answer_value(mine, numbers, row):
@@ -63,7 +73,7 @@ def answer_value(mine, numbers, row):
     if block is None or price > HIGHEST_PRICE:
         return told(WRONG_ARGUMENT)
     milled = 1 if is_milled(mine.model, block, price) else 0
-    return told(milled, told_worth(mine, worth_of_block(mine.model, block, price)))
+    return told_list(milled, told_worth(mine, worth_of_block(mine.model, block, price)))
 
 
 def answer_over(mine, numbers, row):
@@ -71,7 +81,7 @@ def answer_over(mine, numbers, row):
     if block is None:
         return told(WRONG_ARGUMENT)
     blocks = blocks_in(mine.model.over[block] & mine.left())
-    return told(len(blocks), blocks)
+    return told_list(len(blocks), blocks)
 
 
 def answer_pit(mine, numbers, row):
@@ -80,7 +90,7 @@ def answer_pit(mine, numbers, row):
         return told(WRONG_ARGUMENT)
     blocks = blocks_in(best_pit(mine.model, mine.left(), price))
     worth = told_worth(mine, worth_of_blocks(mine.model, blocks, price))
-    return told(len(blocks), worth + blocks)
+    return told_list(len(blocks), worth + blocks)
 
 
 def answer_worth(mine, numbers, row):
@@ -89,8 +99,8 @@ def answer_worth(mine, numbers, row):
         return told(WRONG_ARGUMENT)
     stuck = first_stuck(mine.model, mine.gone, row)
     if stuck is not None:
-        return told(CANNOT_GO, [stuck])
-    return told(0, told_worth(mine, worth_of_blocks(mine.model, row, price)))
+        return told_list(CANNOT_GO, [stuck])
+    return told_list(0, told_worth(mine, worth_of_blocks(mine.model, row, price)))
 
 
 ANSWERS = {

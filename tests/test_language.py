@@ -63,6 +63,18 @@ def is_plain(node, defined):
     return isinstance(node, ast.Constant)
 
 
+def is_plain_default(node):
+    """True if a default is a whole number, a text, True, False or None."""
+    if isinstance(node, ast.UnaryOp) and isinstance(node.op, ast.USub):
+        return isinstance(node.operand, ast.Constant) and type(node.operand.value) is int
+    return isinstance(node, ast.Constant) and type(node.value) in (int, str, bool, type(None))
+
+
+def defaults_of(node):
+    """The defaults of a def or a lambda, those behind a bare star too."""
+    return [one for one in node.args.defaults + node.args.kw_defaults if one is not None]
+
+
 class LanguageTest(unittest.TestCase):
     def setUp(self):
         paths = sorted(PACKAGE.glob("*.py"))
@@ -175,6 +187,24 @@ class LanguageTest(unittest.TestCase):
             for one in node.body:
                 if isinstance(one, ast.FunctionDef) and one.name.startswith("_"):
                     self.assertEqual(one.name, "__init__", where)
+
+    def test_defaults_are_plain_values(self):
+        for where, node in self.nodes(ast.FunctionDef, ast.Lambda):
+            for one in defaults_of(node):
+                self.assertTrue(is_plain_default(one), where)
+
+    def test_what_counts_as_a_plain_default(self):
+        for text in ("0", "-1", "4294967295", "''", "'a text'", "True", "False", "None"):
+            for form in ("def f(a, b=%s):\n    pass", "lambda a, b=%s: a", "def f(a, *, b=%s):\n    pass"):
+                self.assertEqual(self.plain_defaults(form % text), [True], text)
+        for text in ("()", "(1, 2)", "[]", "[1]", "{}", "{1}", "READ", "len", "f()", "1 + 1", "-x", "1.5", "b''", "...",
+                     "not True", "f'{a}'", "lambda: 0", "a.b", "a[0]", "-'a'", "-True", "~1"):
+            for form in ("def f(a, b=%s):\n    pass", "lambda a, b=%s: a", "def f(a, *, b=%s):\n    pass"):
+                self.assertEqual(self.plain_defaults(form % text), [False], text)
+
+    def plain_defaults(self, text):
+        outer = ast.parse(text).body[0]
+        return [is_plain_default(one) for one in defaults_of(outer.value if isinstance(outer, ast.Expr) else outer)]
 
     def test_names(self):
         own = set(dir(builtins))
