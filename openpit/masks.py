@@ -14,6 +14,14 @@ def all_blocks(how_many):
     return (1 << how_many) - 1
 
 
+def set_of(blocks):
+    """The set of these blocks."""
+    mask = 0
+    for block in blocks:
+        mask = mask | one_block(block)
+    return mask
+
+
 def holds(mask, block):
     """True if the block is in the set."""
     return (mask >> block) & 1 == 1

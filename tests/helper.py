@@ -44,6 +44,31 @@ def worth(price, blocks):
     return [7, price, len(blocks)] + list(blocks)
 
 
+def shells(prices):
+    return [8, len(prices)] + list(prices)
+
+
+def from_price(x, y, z):
+    return [9, x, y, z]
+
+
+def dig(blocks):
+    return [10, len(blocks)] + list(blocks)
+
+
+def undo():
+    return [11]
+
+
+def dug(price):
+    return [12, price]
+
+
+def plan(price, upper, lower, most, entries):
+    """entries: pairs of a period and a block."""
+    return [13, price, upper, lower, most, 2 * len(entries)] + [one for entry in entries for one in entry]
+
+
 # Answers
 
 def ask(*calls):
@@ -79,6 +104,11 @@ def parts(answer):
 def number(how, at=None):
     """An answer of a number alone, or of a number and a list of one place."""
     return (how, [] if at is None else [at], b"")
+
+
+def fraction(one):
+    """The two numbers by which a fraction is told."""
+    return [Fraction(one).numerator, Fraction(one).denominator]
 
 
 # Models
@@ -141,6 +171,45 @@ def lying_over(sizes, slope):
             whole = more
         found.append(whole)
     return found
+
+
+def least_best_set(near, worths):
+    """The most that a set is worth, and the least such set, by the greatest flow step for step upward."""
+    size = len(worths)
+    room = [{} for k in range(size + 2)]
+
+    def way(a, b, much):
+        room[a][b] = much
+        room[b].setdefault(a, 0)
+
+    endless = sum(abs(one) for one in worths) + 1
+    for k, one in enumerate(worths):
+        if one > 0:
+            way(size, k, one)
+        if one < 0:
+            way(k, size + 1, -one)
+        for other in near[k]:
+            way(k, other, endless)
+    while True:
+        came = {size: None}
+        queue = [size]
+        for a in queue:
+            for b in room[a]:
+                if b not in came and room[a][b] > 0:
+                    came[b] = a
+                    queue.append(b)
+        if size + 1 not in came:
+            inside = sorted(k for k in came if k < size)
+            return sum((worths[k] for k in inside), Fraction(0)), inside
+        steps = []
+        b = size + 1
+        while came[b] is not None:
+            steps.append((came[b], b))
+            b = came[b]
+        much = min(room[a][b] for a, b in steps)
+        for a, b in steps:
+            room[a][b] -= much
+            room[b][a] += much
 
 
 class Dice:

@@ -5,7 +5,7 @@ import unittest
 from fractions import Fraction
 from math import gcd
 
-from tests.helper import EXAMPLE, Dice, Ground, above, ask, number, pit, places, read
+from tests.helper import EXAMPLE, Dice, Ground, above, ask, least_best_set, number, pit, places, read
 
 SMALL_SIZES = ((1, 1, 1), (1, 1, 6), (5, 1, 2), (1, 5, 2), (3, 1, 3), (4, 1, 3), (1, 4, 3), (2, 2, 3), (3, 2, 2),
                (2, 3, 2), (2, 1, 6), (3, 3, 1))
@@ -28,45 +28,6 @@ def best_sets(closed, worths):
         sums = sums + [before + one for before in sums]
     most = max(sums[some] for some in closed)
     return most, [some for some in closed if sums[some] == most]
-
-
-def least_best_set(near, worths):
-    """The most that a set is worth, and the least such set, by the greatest flow step for step upward."""
-    size = len(worths)
-    room = [{} for k in range(size + 2)]
-
-    def way(a, b, much):
-        room[a][b] = much
-        room[b].setdefault(a, 0)
-
-    endless = sum(abs(one) for one in worths) + 1
-    for k, one in enumerate(worths):
-        if one > 0:
-            way(size, k, one)
-        if one < 0:
-            way(k, size + 1, -one)
-        for other in near[k]:
-            way(k, other, endless)
-    while True:
-        came = {size: None}
-        queue = [size]
-        for a in queue:
-            for b in room[a]:
-                if b not in came and room[a][b] > 0:
-                    came[b] = a
-                    queue.append(b)
-        if size + 1 not in came:
-            inside = sorted(k for k in came if k < size)
-            return sum((worths[k] for k in inside), Fraction(0)), inside
-        steps = []
-        b = size + 1
-        while came[b] is not None:
-            steps.append((came[b], b))
-            b = came[b]
-        much = min(room[a][b] for a, b in steps)
-        for a, b in steps:
-            room[a][b] -= much
-            room[b][a] += much
 
 
 class PitTest(unittest.TestCase):
